@@ -5,6 +5,7 @@ import (
 	"slices"
 
 	"mahlstick/api"
+	"mahlstick/best"
 )
 
 // Check returns ErrArg for a sheet that is not as defined.
@@ -62,7 +63,7 @@ func Set(s api.LetterSheet) (api.LetterSetting, int, api.Errno) {
 	if !isSheet(s) {
 		return api.LetterSetting{}, 0, api.ErrArg
 	}
-	l, fits := best(fitting(s, nil), fewerAndWider)
+	l, fits := best.Of(fitting(s, nil), fewerAndWider)
 	if !fits {
 		return api.LetterSetting{}, 0, api.ErrNone
 	}
@@ -86,7 +87,7 @@ func Narrow(s api.LetterSheet) (int, api.Errno) {
 	if !isSheet(s) {
 		return 0, api.ErrArg
 	}
-	x, _ := best(settings(s, nil), func(a, b api.LetterSetting) bool {
+	x, _ := best.Of(settings(s, nil), func(a, b api.LetterSetting) bool {
 		return frontOf(s, a) < frontOf(s, b)
 	})
 	return frontOf(s, x), api.OK
@@ -97,7 +98,7 @@ func Drop(s api.LetterSheet) ([]int, api.Errno) {
 	if !isSheet(s) {
 		return nil, api.ErrArg
 	}
-	out, found := best(enough(s), func(a, b []int) bool { return len(a) < len(b) })
+	out, found := best.Of(enough(s), func(a, b []int) bool { return len(a) < len(b) })
 	if !found {
 		return nil, api.ErrNone
 	}

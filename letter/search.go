@@ -8,18 +8,6 @@ import (
 	"mahlstick/api"
 )
 
-// best returns the first of some things than which no other one is better, or false if there are none.
-func best[T any](all iter.Seq[T], better func(a, b T) bool) (T, bool) {
-	var result T
-	found := false
-	for x := range all {
-		if !found || better(x, result) {
-			result, found = x, true
-		}
-	}
-	return result, found
-}
-
 // possibleEnds returns all ends that rows can have without some words, in order.
 func possibleEnds(s api.LetterSheet, out []int) []api.LetterEnd {
 	var ends []api.LetterEnd

@@ -1,8 +1,6 @@
 package letter
 
 import (
-	"strings"
-
 	"mahlstick/api"
 	"mahlstick/lines"
 )
@@ -19,20 +17,26 @@ const (
 	no  = "no"
 )
 
-// The numbers of the words with which lines begin, in the order of the lines.
+// The numbers of the words with which lines begin, in the order of the lines; before the first line there is no word.
 const (
-	frontWord = iota
+	noWord = iota - 1
+	frontWord
 	spacesWord
 	signWord
 	pairWord
 	wordWord
 )
 
-// names are the words with which lines begin.
-var names = [...]string{frontWord: "front", spacesWord: "spaces", signWord: "sign", pairWord: "pair", wordWord: "word"}
-
-// follow is how many words follow the first one of a line.
-var follow = [...]int{frontWord: 2, spacesWord: 5, signWord: 1, pairWord: 4, wordWord: 3}
+// kinds returns what lines there are, by the numbers of their words.
+func kinds() []lines.Kind {
+	return []lines.Kind{
+		frontWord:  {Word: "front", Others: 2},
+		spacesWord: {Word: "spaces", Others: 5},
+		signWord:   {Word: "sign", Others: 1},
+		pairWord:   {Word: "pair", Others: 4},
+		wordWord:   {Word: "word", Others: 3},
+	}
+}
 
 // A line is one of a text.
 type line interface{ text() string }
@@ -52,19 +56,19 @@ type pairLine struct{ pair api.LetterPair }
 type wordLine struct{ word api.LetterWord }
 
 func (x frontLine) text() string {
-	return names[frontWord] + " " + lines.Join(" ", x.wide, x.rows)
+	return kinds()[frontWord].Line(lines.Join(" ", x.wide, x.rows))
 }
 
 func (x spacesLine) text() string {
-	return names[spacesWord] + " " + lines.Join(" ", x.other.Low, x.other.High, x.gap.Low, x.gap.High, x.hyphen)
+	return kinds()[spacesWord].Line(lines.Join(" ", x.other.Low, x.other.High, x.gap.Low, x.gap.High, x.hyphen))
 }
 
 func (x signLine) text() string {
-	return names[signWord] + " " + lines.Join(" ", x.width)
+	return kinds()[signWord].Line(lines.Join(" ", x.width))
 }
 
 func (x pairLine) text() string {
-	return names[pairWord] + " " + lines.Join(" ", x.pair.Left, x.pair.Right, x.pair.Space.Low, x.pair.Space.High)
+	return kinds()[pairWord].Line(lines.Join(" ", x.pair.Left, x.pair.Right, x.pair.Space.Low, x.pair.Space.High))
 }
 
 func (x wordLine) text() string {
@@ -72,7 +76,7 @@ func (x wordLine) text() string {
 	if x.word.Free {
 		free = yes
 	}
-	return strings.Join([]string{names[wordWord], free, lines.List(x.word.Signs), lines.List(x.word.Cuts)}, " ")
+	return kinds()[wordWord].Line(free, lines.List(x.word.Signs), lines.List(x.word.Cuts))
 }
 
 // write returns the text of a sheet.
@@ -94,61 +98,35 @@ func write(s api.LetterSheet) string {
 	return lines.Seal(body, modulo)
 }
 
-// noText is the panic of a string that is no text.
-type noText struct{}
-
 // parse returns the sheet of a text, which may not be as defined, or false if the string is no text.
-func parse(text string) (s api.LetterSheet, ok bool) {
-	defer func() {
-		if _, none := recover().(noText); none {
-			s, ok = api.LetterSheet{}, false
-		}
-	}()
-	body, sealed := lines.Open(text, modulo)
-	must(sealed && len(body) >= signWord)
-	last := frontWord
-	for i, next := range body {
-		words := strings.Split(next, " ")
-		word := mustName(words[0])
-		must(mayFollow(last, word, i))
-		s = added(s, mustLine(word, words[1:]))
+func parse(text string) (api.LetterSheet, bool) {
+	var s api.LetterSheet
+	last := noWord
+	ok := lines.Parse(text, modulo, kinds(), func(word int, others []string) {
+		lines.Must(mayFollow(last, word))
+		s = added(s, mustLine(word, others))
 		last = word
+	})
+	if !ok || last < spacesWord {
+		return api.LetterSheet{}, false
 	}
 	return s, true
 }
 
-// must gives up if something is not so that must be so in a text.
-func must(is bool) {
-	if !is {
-		panic(noText{})
+// mayFollow reports whether a line with a word can follow one with another word: the lines front and spaces are there once, all others any number of times.
+func mayFollow(last, word int) bool {
+	if word <= spacesWord {
+		return word == last+1
 	}
-}
-
-// mustName returns the number of a word with which lines begin.
-func mustName(name string) int {
-	for word := range len(names) {
-		if names[word] == name {
-			return word
-		}
-	}
-	panic(noText{})
-}
-
-// mayFollow reports whether a line with a word can be the line with a number, after one with another word: the lines front and spaces are there once, all others any number of times.
-func mayFollow(last, word, number int) bool {
-	if number < signWord {
-		return word == number
-	}
-	return word >= signWord && word >= last
+	return last >= spacesWord && word >= last
 }
 
 // mustLine returns the line that has a word and some others after it.
 func mustLine(word int, others []string) line {
-	must(len(others) == follow[word])
 	if word == wordWord {
-		return wordLine{api.LetterWord{Free: mustFree(others[0]), Signs: mustList(others[1]), Cuts: mustList(others[2])}}
+		return wordLine{api.LetterWord{Free: mustFree(others[0]), Signs: lines.MustList(others[1], digits), Cuts: lines.MustList(others[2], digits)}}
 	}
-	n := mustNumbers(others)
+	n := lines.MustNumbers(others, digits)
 	switch word {
 	case frontWord:
 		return frontLine{n[0], n[1]}
@@ -163,26 +141,8 @@ func mustLine(word int, others []string) line {
 
 // mustFree returns what yes or no says.
 func mustFree(word string) bool {
-	must(word == yes || word == no)
+	lines.Must(word == yes || word == no)
 	return word == yes
-}
-
-// mustList returns the list that a word is.
-func mustList(word string) []int {
-	list, ok := lines.Numbers(word, digits)
-	must(ok)
-	return list
-}
-
-// mustNumbers returns the numbers that some words are.
-func mustNumbers(words []string) []int {
-	var numbers []int
-	for _, word := range words {
-		number, ok := lines.Number(word, digits)
-		must(ok)
-		numbers = append(numbers, number)
-	}
-	return numbers
 }
 
 // added returns a sheet with what one line more says.

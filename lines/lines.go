@@ -1,10 +1,22 @@
-// Package lines has what the texts of all layers have in common: lines of words with single blanks between them, numbers in decimal, and a check of the lines in the last one.
+// Package lines has what the texts of all layers have in common: lines of some kinds, of words with single blanks between them, numbers in decimal, and a check of the lines in the last one.
 package lines
 
 import (
+	"slices"
 	"strconv"
 	"strings"
 )
+
+// A Kind is one of lines: the word with which they begin, and how many others follow it.
+type Kind struct {
+	Word   string
+	Others int
+}
+
+// Line returns the line of a kind with some words after the first one; a word may be several, with blanks between them.
+func (k Kind) Line(others ...string) string {
+	return strings.Join(append([]string{k.Word}, others...), " ")
+}
 
 // Seal returns a text with some lines, and a last line that has their check, the rest of a sum modulo a number.
 func Seal(body []string, modulo int) string {
@@ -42,6 +54,34 @@ func Open(text string, modulo int) ([]string, bool) {
 	return body, true
 }
 
+// noText is the panic of a string that is no text.
+type noText struct{}
+
+// Must gives up the call of Parse within which it is called if something is not so that must be so in a text.
+func Must(is bool) {
+	if !is {
+		panic(noText{})
+	}
+}
+
+// Parse calls a function with the kind of each line of a text before its last one, and with the words that follow the first one of the line. It returns false if the string is no text: if the last line does not have the check of the others, if one of these is of no kind, or if the function gave up.
+func Parse(text string, modulo int, kinds []Kind, each func(kind int, others []string)) (ok bool) {
+	defer func() {
+		if _, none := recover().(noText); none {
+			ok = false
+		}
+	}()
+	body, sealed := Open(text, modulo)
+	Must(sealed)
+	for _, line := range body {
+		words := strings.Split(line, " ")
+		kind := slices.Index(kinds, Kind{words[0], len(words) - 1})
+		Must(kind >= 0)
+		each(kind, words[1:])
+	}
+	return true
+}
+
 // Number returns the number that a word is, or false if it is none in decimal, without a sign and without leading zeros, of at most so many digits.
 func Number(word string, digits int) (int, bool) {
 	if word == "" || len(word) > digits || len(word) > 1 && word[0] == '0' {
@@ -55,6 +95,17 @@ func Number(word string, digits int) (int, bool) {
 		number = number*10 + int(digit-'0')
 	}
 	return number, true
+}
+
+// MustNumbers returns the numbers that some words are, each of at most so many digits; it gives up as Must does if one is none.
+func MustNumbers(words []string, digits int) []int {
+	var numbers []int
+	for _, word := range words {
+		number, ok := Number(word, digits)
+		Must(ok)
+		numbers = append(numbers, number)
+	}
+	return numbers
 }
 
 // Join returns numbers in decimal with a string between two of them.
@@ -91,4 +142,11 @@ func Numbers(word string, digits int) ([]int, bool) {
 		numbers = append(numbers, number)
 	}
 	return numbers, true
+}
+
+// MustList returns the list of numbers that a word is, each of at most so many digits; it gives up as Must does if it is none.
+func MustList(word string, digits int) []int {
+	list, ok := Numbers(word, digits)
+	Must(ok)
+	return list
 }

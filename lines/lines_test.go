@@ -2,6 +2,7 @@ package lines_test
 
 import (
 	"slices"
+	"strings"
 	"testing"
 
 	"mahlstick/lines"
@@ -66,5 +67,64 @@ func TestLists(t *testing.T) {
 	}
 	if got := lines.Join(" ", 1, 20, 3) + lines.Join(" "); got != "1 20 3" {
 		t.Error(got)
+	}
+}
+
+func TestKinds(t *testing.T) {
+	kinds := []lines.Kind{{Word: "tram", Others: 4}, {Word: "cell", Others: 3}, {Word: "cell", Others: 1}, {Word: "stop"}}
+	if got := kinds[0].Line("1 20", "3 0") + kinds[3].Line() + kinds[2].Line("no"); got != "tram 1 20 3 0stopcell no" {
+		t.Error(got)
+	}
+	var got []string
+	ok := lines.Parse(lines.Seal([]string{"cell 1", "tram 1 1 1 0", "stop", "cell 1 2 no"}, 7), 7, kinds, func(kind int, others []string) {
+		got = append(got, strings.Join(append([]string{kinds[kind].Word}, others...), "_"))
+	})
+	if want := []string{"cell_1", "tram_1_1_1_0", "stop", "cell_1_2_no"}; !ok || !slices.Equal(got, want) {
+		t.Error(got, ok)
+	}
+	if !lines.Parse(lines.Seal(nil, 7), 7, nil, nil) {
+		t.Error("a text without lines")
+	}
+	for i, body := range [][]string{{""}, {"cell"}, {"cell 1 2"}, {"cell 1 2 3 4"}, {"stop "}, {" stop"}, {"Stop"}, {"stops"}, {"end 000"}, {"stop", "x"}} {
+		if lines.Parse(lines.Seal(body, 7), 7, kinds, func(int, []string) {}) {
+			t.Error(i, body)
+		}
+	}
+	for i, text := range []string{"", "stop\n", "stop\nend 007\n", lines.Seal([]string{"stop"}, 5)} {
+		if lines.Parse(text, 7, kinds, func(int, []string) { t.Error(i) }) {
+			t.Error(i, text)
+		}
+	}
+}
+
+func TestGivingUp(t *testing.T) {
+	text := lines.Seal([]string{"a 1 02 3,4", "a 5 6 -"}, 7)
+	kinds := []lines.Kind{{Word: "a", Others: 3}}
+	for i, x := range []struct {
+		each  func(others []string)
+		calls int
+	}{
+		{func([]string) {}, 2},
+		{func([]string) { lines.Must(true) }, 2},
+		{func([]string) { lines.Must(false) }, 1},
+		{func(others []string) { lines.Must(others[0] == "1") }, 2},
+		{func(others []string) { lines.MustNumbers(others[:1], 1) }, 2},
+		{func(others []string) { lines.MustNumbers(others[:2], 3) }, 1},
+		{func(others []string) { lines.MustNumbers(others[2:], 3) }, 1},
+		{func(others []string) { lines.MustList(others[2], 1) }, 2},
+		{func(others []string) { lines.MustList(others[1], 3) }, 1},
+		{func([]string) { panic("not that of a text") }, 1},
+	} {
+		calls := 0
+		ok := lines.Parse(text, 7, kinds, func(_ int, others []string) {
+			calls++
+			x.each(others)
+		})
+		if whole := i < 2 || i == 4 || i == 7; ok != whole || calls != x.calls {
+			t.Error(i, ok, calls)
+		}
+	}
+	if n, l := lines.MustNumbers([]string{"1", "20"}, 2), lines.MustList("7,0", 1); !slices.Equal(n, []int{1, 20}) || !slices.Equal(l, []int{7, 0}) {
+		t.Error(n, l)
 	}
 }
