@@ -5,40 +5,22 @@ import (
 	"slices"
 
 	"mahlstick/api"
+	"mahlstick/limits"
 )
 
 // isSheet reports whether a sheet is as defined.
 func isSheet(s api.LetterSheet) bool {
 	return areWidths(s.Widths) && arePairs(s.Pairs, len(s.Widths)) &&
-		isSpan(s.Other, api.LetterSpace) && isSpan(s.Gap, api.LetterGap) &&
-		isFrom1(s.Hyphen, api.LetterWidth) && areWords(s.Words, len(s.Widths)) &&
-		isFrom1(s.Wide, api.LetterFront) && isFrom1(s.Rows, api.LetterRows)
-}
-
-// isFrom1 reports whether a number is from 1 to another one.
-func isFrom1(n, most int) bool { return 1 <= n && n <= most }
-
-// isBelow reports whether a number is that of one of so many things.
-func isBelow(n, things int) bool { return 0 <= n && n < things }
-
-// isSpan reports whether a span is from 0 to a number, with ends in order.
-func isSpan(x api.Span, most int) bool {
-	return 0 <= x.Low && x.Low <= x.High && x.High <= most
+		limits.IsSpan(0, s.Other, api.LetterSpace) && limits.IsSpan(0, s.Gap, api.LetterGap) &&
+		limits.IsFrom(1, s.Hyphen, api.LetterWidth) && areWords(s.Words, len(s.Widths)) &&
+		limits.IsFrom(1, s.Wide, api.LetterFront) && limits.IsFrom(1, s.Rows, api.LetterRows)
 }
 
 // isStretch reports whether a number is a stretch.
-func isStretch(n int) bool { return 0 <= n && n <= api.LetterStretch }
+func isStretch(n int) bool { return limits.IsFrom(0, n, api.LetterStretch) }
 
 func areWidths(widths []int) bool {
-	if !isFrom1(len(widths), api.LetterSigns) {
-		return false
-	}
-	for _, width := range widths {
-		if !isFrom1(width, api.LetterWidth) {
-			return false
-		}
-	}
-	return true
+	return limits.IsFrom(1, len(widths), api.LetterSigns) && limits.AreFrom(1, widths, api.LetterWidth)
 }
 
 func arePairs(pairs []api.LetterPair, signs int) bool {
@@ -46,7 +28,7 @@ func arePairs(pairs []api.LetterPair, signs int) bool {
 		return false
 	}
 	for i, p := range pairs {
-		if !isBelow(p.Left, signs) || !isBelow(p.Right, signs) || !isSpan(p.Space, api.LetterSpace) {
+		if !limits.IsFrom(0, p.Left, signs-1) || !limits.IsFrom(0, p.Right, signs-1) || !limits.IsSpan(0, p.Space, api.LetterSpace) {
 			return false
 		}
 		if i > 0 && comparePairs(pairs[i-1], p) >= 0 {
@@ -62,30 +44,14 @@ func comparePairs(a, b api.LetterPair) int {
 }
 
 func areWords(words []api.LetterWord, signs int) bool {
-	if !isFrom1(len(words), api.LetterWords) {
+	if !limits.IsFrom(1, len(words), api.LetterWords) {
 		return false
 	}
 	for _, word := range words {
-		if !isFrom1(len(word.Signs), api.LetterLong) || !areCuts(word.Cuts, len(word.Signs)) {
+		letters := len(word.Signs)
+		if !limits.IsFrom(1, letters, api.LetterLong) || !limits.AreFrom(0, word.Signs, signs-1) || !limits.AreIncreasing(1, word.Cuts, letters-1) {
 			return false
 		}
-		for _, sign := range word.Signs {
-			if !isBelow(sign, signs) {
-				return false
-			}
-		}
-	}
-	return true
-}
-
-// areCuts reports whether a list is that of the cuts of a word with so many letters.
-func areCuts(cuts []int, letters int) bool {
-	last := 0
-	for _, cut := range cuts {
-		if cut <= last || cut >= letters {
-			return false
-		}
-		last = cut
 	}
 	return true
 }
@@ -97,15 +63,13 @@ func isSetting(s api.LetterSheet, x api.LetterSetting) bool {
 
 // isOut reports whether the words of a list can be left out.
 func isOut(s api.LetterSheet, out []int) bool {
-	if len(out) >= len(s.Words) {
+	if len(out) >= len(s.Words) || !limits.AreIncreasing(0, out, len(s.Words)-1) {
 		return false
 	}
-	last := -1
 	for _, word := range out {
-		if word <= last || word >= len(s.Words) || !s.Words[word].Free {
+		if !s.Words[word].Free {
 			return false
 		}
-		last = word
 	}
 	return true
 }

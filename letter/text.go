@@ -11,12 +11,6 @@ const modulo = 173
 // digits is how many digits a number of a text has at most.
 const digits = 3
 
-// The words that say whether a word of the name is free.
-const (
-	yes = "yes"
-	no  = "no"
-)
-
 // The numbers of the words with which lines begin, in the order of the lines; before the first line there is no word.
 const (
 	noWord = iota - 1
@@ -72,11 +66,7 @@ func (x pairLine) text() string {
 }
 
 func (x wordLine) text() string {
-	free := no
-	if x.word.Free {
-		free = yes
-	}
-	return kinds()[wordWord].Line(free, lines.List(x.word.Signs), lines.List(x.word.Cuts))
+	return kinds()[wordWord].Line(lines.YesNo(x.word.Free), lines.List(x.word.Signs), lines.List(x.word.Cuts))
 }
 
 // write returns the text of a sheet.
@@ -124,7 +114,7 @@ func mayFollow(last, word int) bool {
 // mustLine returns the line that has a word and some others after it.
 func mustLine(word int, others []string) line {
 	if word == wordWord {
-		return wordLine{api.LetterWord{Free: mustFree(others[0]), Signs: lines.MustList(others[1], digits), Cuts: lines.MustList(others[2], digits)}}
+		return wordLine{api.LetterWord{Free: lines.MustYesNo(others[0]), Signs: lines.MustList(others[1], digits), Cuts: lines.MustList(others[2], digits)}}
 	}
 	n := lines.MustNumbers(others, digits)
 	switch word {
@@ -137,12 +127,6 @@ func mustLine(word int, others []string) line {
 	default:
 		return pairLine{api.LetterPair{Left: n[0], Right: n[1], Space: api.Span{Low: n[2], High: n[3]}}}
 	}
-}
-
-// mustFree returns what yes or no says.
-func mustFree(word string) bool {
-	lines.Must(word == yes || word == no)
-	return word == yes
 }
 
 // added returns a sheet with what one line more says.

@@ -150,3 +150,23 @@ func MustList(word string, digits int) []int {
 	Must(ok)
 	return list
 }
+
+// The words that say whether something is so.
+const (
+	yes = "yes"
+	no  = "no"
+)
+
+// YesNo returns the word that says whether something is so.
+func YesNo(is bool) string {
+	if is {
+		return yes
+	}
+	return no
+}
+
+// MustYesNo returns whether a word says that something is so; it gives up as Must does if it is no such word.
+func MustYesNo(word string) bool {
+	Must(word == yes || word == no)
+	return word == yes
+}

@@ -128,3 +128,21 @@ func TestGivingUp(t *testing.T) {
 		t.Error(n, l)
 	}
 }
+
+func TestYesNo(t *testing.T) {
+	for _, is := range []bool{true, false} {
+		if word := lines.YesNo(is); lines.MustYesNo(word) != is {
+			t.Error(is, word)
+		}
+	}
+	if word := lines.YesNo(true) + lines.YesNo(false); word != "yesno" {
+		t.Error(word)
+	}
+	kinds := []lines.Kind{{Word: "a", Others: 1}}
+	for word, want := range map[string]bool{"yes": true, "no": true, "": false, "Yes": false, "NO": false, "y": false, "yesno": false, "0": false, "true": false} {
+		text := lines.Seal([]string{kinds[0].Line(word)}, 7)
+		if ok := lines.Parse(text, 7, kinds, func(_ int, others []string) { lines.MustYesNo(others[0]) }); ok != want {
+			t.Error(word, ok)
+		}
+	}
+}

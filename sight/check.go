@@ -1,28 +1,23 @@
 package sight
 
-import "mahlstick/api"
+import (
+	"mahlstick/api"
+	"mahlstick/limits"
+)
 
 // isStreet reports whether a street is as defined.
 func isStreet(s api.SightStreet) bool {
-	return isFrom(1, s.Length, api.SightLength) && isFrom(1, s.Width, api.SightWidth) &&
-		isSpan(s.Eye, 1, api.SightEye) && isSpan(s.Light, 1, api.SightLight) &&
+	return limits.IsFrom(1, s.Length, api.SightLength) && limits.IsFrom(1, s.Width, api.SightWidth) &&
+		limits.IsSpan(1, s.Eye, api.SightEye) && limits.IsSpan(1, s.Light, api.SightLight) &&
 		areBoards(s.Boards, s.Length) && areBlocks(s.Blocks, s.Length, s.Width)
 }
 
-// isFrom reports whether a number lies between two others, or is one of them.
-func isFrom(least, n, most int) bool { return least <= n && n <= most }
-
-// isSpan reports whether a span lies between two numbers, with ends in order.
-func isSpan(x api.Span, least, most int) bool {
-	return least <= x.Low && x.Low <= x.High && x.High <= most
-}
-
 func areBoards(boards []api.SightBoard, length int) bool {
-	if !isFrom(1, len(boards), api.SightBoards) {
+	if !limits.IsFrom(1, len(boards), api.SightBoards) {
 		return false
 	}
 	for _, board := range boards {
-		if !isFrom(0, board.At, length) || !areLetters(board.Letters) {
+		if !limits.IsFrom(0, board.At, length) || !areLetters(board.Letters) {
 			return false
 		}
 	}
@@ -30,7 +25,7 @@ func areBoards(boards []api.SightBoard, length int) bool {
 }
 
 func areLetters(letters []api.SightLetter) bool {
-	if !isFrom(1, len(letters), api.SightLetters) {
+	if !limits.IsFrom(1, len(letters), api.SightLetters) {
 		return false
 	}
 	for _, letter := range letters {
@@ -43,13 +38,13 @@ func areLetters(letters []api.SightLetter) bool {
 }
 
 func isLetter(letter api.SightLetter) bool {
-	return isFrom(1, letter.Height, api.SightSize) && isFrom(1, letter.Width, api.SightSize) &&
-		isFrom(1, letter.Stroke, api.SightStroke) && isFrom(0, letter.Space, api.SightSpace)
+	return limits.IsFrom(1, letter.Height, api.SightSize) && limits.IsFrom(1, letter.Width, api.SightSize) &&
+		limits.IsFrom(1, letter.Stroke, api.SightStroke) && limits.IsFrom(0, letter.Space, api.SightSpace)
 }
 
 func areBlocks(blocks []api.SightBlock, length, width int) bool {
 	for _, block := range blocks {
-		if !isSpan(block.Along, 0, length) || !isSpan(block.Across, 1, width) {
+		if !limits.IsSpan(0, block.Along, length) || !limits.IsSpan(1, block.Across, width) {
 			return false
 		}
 	}
@@ -57,9 +52,9 @@ func areBlocks(blocks []api.SightBlock, length, width int) bool {
 }
 
 // isBoard reports whether a number is that of a board of a street.
-func isBoard(s api.SightStreet, board int) bool { return isFrom(0, board, len(s.Boards)-1) }
+func isBoard(s api.SightStreet, board int) bool { return limits.IsFrom(0, board, len(s.Boards)-1) }
 
 // isView reports whether a street is as defined, a number is that of one of its boards, and a place is in it.
 func isView(s api.SightStreet, board int, from api.SightPlace) bool {
-	return isStreet(s) && isBoard(s, board) && isFrom(0, from.Along, s.Length) && isFrom(1, from.Across, s.Width)
+	return isStreet(s) && isBoard(s, board) && limits.IsFrom(0, from.Along, s.Length) && limits.IsFrom(1, from.Across, s.Width)
 }
