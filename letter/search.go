@@ -6,6 +6,7 @@ import (
 	"slices"
 
 	"mahlstick/api"
+	"mahlstick/picks"
 )
 
 // possibleEnds returns all ends that rows can have without some words, in order.
@@ -66,25 +67,25 @@ func fewerAndWider(a, b laid) bool {
 	return cmp.Or(cmp.Compare(len(a.Ends), len(b.Ends)), cmp.Compare(b.stretch, a.stretch)) < 0
 }
 
-// outs goes through all lists of words that can be left out, in lexicographic order.
+// freeWords returns all words that are free.
+func freeWords(s api.LetterSheet) []int {
+	var free []int
+	for i, word := range s.Words {
+		if word.Free {
+			free = append(free, i)
+		}
+	}
+	return free
+}
+
+// outs goes through all lists of words that can be left out, in lexicographic order; some word is never left out.
 func outs(s api.LetterSheet) iter.Seq[[]int] {
 	return func(yield func([]int) bool) {
-		var extend func(out []int, from int) bool
-		extend = func(out []int, from int) bool {
-			if len(out) == len(s.Words) {
-				return true
+		for out := range picks.Of(freeWords(s)) {
+			if len(out) < len(s.Words) && !yield(out) {
+				return
 			}
-			if !yield(out) {
-				return false
-			}
-			for word := from; word < len(s.Words); word++ {
-				if s.Words[word].Free && !extend(append(slices.Clone(out), word), word+1) {
-					return false
-				}
-			}
-			return true
 		}
-		extend(nil, 0)
 	}
 }
 
