@@ -5,6 +5,7 @@ import (
 	"slices"
 
 	"mahlstick/api"
+	"mahlstick/picks"
 )
 
 // laying is a coat that is laid on a day.
@@ -42,35 +43,16 @@ func (x sums) dries(coat, from, to int) bool {
 
 // plans goes through all plans that surely hold, in order.
 func (x sums) plans() iter.Seq[[]int] {
-	return func(yield func([]int) bool) {
-		known := x.goingOn()
-		var extend func(plan []int) bool
-		extend = func(plan []int) bool {
-			coat := len(plan)
-			if coat == len(x.Coats) {
-				return yield(plan)
-			}
-			for day := range len(x.Dry) {
-				follows := coat == 0 || x.dries(coat-1, plan[coat-1], day)
-				if follows && known[laying{coat, day}] && !extend(append(slices.Clone(plan), day)) {
-					return false
-				}
-			}
-			return true
-		}
-		extend(nil)
-	}
+	known := x.goingOn()
+	return picks.Lists(len(x.Coats), len(x.Dry), func(plan []int, day int) bool {
+		coat := len(plan)
+		return known[laying{coat, day}] && (coat == 0 || x.dries(coat-1, plan[coat-1], day))
+	})
 }
 
 // plansAfter goes through all plans that surely hold, and differ from a given one from some day on alone, in order.
 func (x sums) plansAfter(given []int, day int) iter.Seq[[]int] {
-	return func(yield func([]int) bool) {
-		for plan := range x.plans() {
-			if keeps(given, plan, day) && !yield(plan) {
-				return
-			}
-		}
-	}
+	return picks.Where(x.plans(), func(plan []int) bool { return keeps(given, plan, day) })
 }
 
 // keeps reports whether a plan has all days of a given one that are before a day, and no other ones before it.

@@ -4,6 +4,7 @@ import (
 	"slices"
 
 	"mahlstick/api"
+	"mahlstick/sum"
 )
 
 // sums is a sheet with the sums of its spans.
@@ -21,19 +22,10 @@ func summed(s api.CoatSheet) sums {
 		lows, highs = append(lows, dry.Low), append(highs, dry.High)
 	}
 	for day := range len(s.Dry) + 1 {
-		x.lows = append(x.lows, sum(lows[:day]...))
-		x.highs = append(x.highs, sum(highs[:day]...))
+		x.lows = append(x.lows, sum.Of(lows[:day]...))
+		x.highs = append(x.highs, sum.Of(highs[:day]...))
 	}
 	return x
-}
-
-// sum returns the sum of the numbers of some days.
-func sum(days ...int) int {
-	total := 0
-	for _, dry := range days {
-		total += dry
-	}
-	return total
 }
 
 // least returns by how much paint dries at least from a day up to the day before another one.

@@ -26,22 +26,10 @@ func hoursOf(j api.LeafJob, at func(api.LeafGround) api.Span) []api.Span {
 
 // plans goes through all lists with an hour for each of some pieces, no hour twice, each one of the hours that its piece can have; in lexicographic order.
 func plans(hours []api.Span) iter.Seq[[]int] {
-	return func(yield func([]int) bool) {
-		var extend func(plan []int) bool
-		extend = func(plan []int) bool {
-			if len(plan) == len(hours) {
-				return yield(plan)
-			}
-			can := hours[len(plan)]
-			for hour := range api.LeafHours + 1 {
-				if limits.IsFrom(can.Low, hour, can.High) && !slices.Contains(plan, hour) && !extend(append(slices.Clone(plan), hour)) {
-					return false
-				}
-			}
-			return true
-		}
-		extend(nil)
-	}
+	return picks.Lists(len(hours), api.LeafHours+1, func(plan []int, hour int) bool {
+		can := hours[len(plan)]
+		return limits.IsFrom(can.Low, hour, can.High) && !slices.Contains(plan, hour)
+	})
 }
 
 // hasPlan reports whether pieces that can have some hours can have one each, none twice.
@@ -61,28 +49,9 @@ func fixed(hours []api.Span, piece, hour int) []api.Span {
 
 // enough goes through all lists of pieces without which all others can have one hour each, none twice; in lexicographic order.
 func enough(hours []api.Span) iter.Seq[[]int] {
-	return func(yield func([]int) bool) {
-		var pieces []int
-		for piece := range hours {
-			pieces = append(pieces, piece)
-		}
-		for left := range picks.Of(pieces) {
-			if hasPlan(without(hours, left)) && !yield(left) {
-				return
-			}
-		}
-	}
-}
-
-// without returns the hours that all pieces can have but some.
-func without(hours []api.Span, pieces []int) []api.Span {
-	var kept []api.Span
-	for piece, can := range hours {
-		if !slices.Contains(pieces, piece) {
-			kept = append(kept, can)
-		}
-	}
-	return kept
+	return picks.Where(picks.OfFirst(len(hours)), func(left []int) bool {
+		return hasPlan(picks.Without(hours, left))
+	})
 }
 
 // A proof is hours, and more pieces than these that can have no others.

@@ -7,27 +7,15 @@ import (
 
 	"mahlstick/api"
 	"mahlstick/best"
+	"mahlstick/picks"
 )
 
 // cuttings goes through all cuttings of a job, in order.
 func cuttings(j api.LeafJob) iter.Seq[[]int] {
-	return func(yield func([]int) bool) {
-		c := cutterOf(j)
-		var extend func(cutting []int) bool
-		extend = func(cutting []int) bool {
-			if len(cutting) == len(c.Pieces) {
-				return yield(cutting)
-			}
-			for leaf := range leaves(cutting) + 1 {
-				longer := append(slices.Clone(cutting), leaf)
-				if c.fit(piecesOf(longer, leaf)) && !extend(longer) {
-					return false
-				}
-			}
-			return true
-		}
-		extend(nil)
-	}
+	c := cutterOf(j)
+	return picks.Lists(len(c.Pieces), len(c.Pieces), func(cutting []int, leaf int) bool {
+		return leaf <= leaves(cutting) && c.fit(piecesOf(cutting, leaf).with(len(cutting)))
+	})
 }
 
 // leaves returns how many leaves a cutting has.

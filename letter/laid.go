@@ -4,6 +4,7 @@ import (
 	"slices"
 
 	"mahlstick/api"
+	"mahlstick/sum"
 )
 
 // signPair is the signs of two letters next to each other.
@@ -49,15 +50,6 @@ func lay(s api.LetterSheet, x api.LetterSetting, stretch int) laid {
 	return l
 }
 
-// sum returns the sum of widths.
-func sum(widths ...int) int {
-	total := 0
-	for _, width := range widths {
-		total += width
-	}
-	return total
-}
-
 // row returns how wide a row is.
 func (l laid) row(row int) int {
 	var widths []int
@@ -70,7 +62,7 @@ func (l laid) row(row int) int {
 			widths = append(widths, l.Hyphen)
 		}
 	}
-	return sum(widths...)
+	return sum.Of(widths...)
 }
 
 // space returns how wide the space after a letter is; nothing is after the end of a row.

@@ -80,24 +80,12 @@ func freeWords(s api.LetterSheet) []int {
 
 // outs goes through all lists of words that can be left out, in lexicographic order; some word is never left out.
 func outs(s api.LetterSheet) iter.Seq[[]int] {
-	return func(yield func([]int) bool) {
-		for out := range picks.Of(freeWords(s)) {
-			if len(out) < len(s.Words) && !yield(out) {
-				return
-			}
-		}
-	}
+	return picks.Where(picks.Of(freeWords(s)), func(out []int) bool { return len(out) < len(s.Words) })
 }
 
 // enough goes through all lists of words without which some setting fits, in lexicographic order.
 func enough(s api.LetterSheet) iter.Seq[[]int] {
-	return func(yield func([]int) bool) {
-		for out := range outs(s) {
-			if anyFits(s, out) && !yield(out) {
-				return
-			}
-		}
-	}
+	return picks.Where(outs(s), func(out []int) bool { return anyFits(s, out) })
 }
 
 // letters returns how many letters the name has.

@@ -1,7 +1,11 @@
 // Package limits reports whether numbers are within limits; the layers call it.
 package limits
 
-import "mahlstick/api"
+import (
+	"slices"
+
+	"mahlstick/api"
+)
 
 // IsFrom reports whether a number lies between two others, or is one of them.
 func IsFrom(least, n, most int) bool { return least <= n && n <= most }
@@ -24,6 +28,20 @@ func AreIncreasing(least int, numbers []int, most int) bool {
 		}
 	}
 	return AreFrom(least, numbers, most)
+}
+
+// AreDifferent reports whether some numbers lie between two others, or are these, and none is there twice.
+func AreDifferent(least int, numbers []int, most int) bool {
+	// numbers that are all between these cannot be many before one is there twice
+	if !AreFrom(least, numbers, most) {
+		return false
+	}
+	for i, n := range numbers {
+		if slices.Contains(numbers[:i], n) {
+			return false
+		}
+	}
+	return true
 }
 
 // IsSpan reports whether a span lies between two numbers, with ends in order.

@@ -23,13 +23,18 @@ func TestLists(t *testing.T) {
 	for i, x := range []struct {
 		numbers    []int
 		from       bool
+		different  bool
 		increasing bool
 	}{
-		{nil, true, true}, {[]int{}, true, true}, {[]int{2}, true, true}, {[]int{5}, true, true}, {[]int{2, 5}, true, true}, {[]int{2, 3, 4, 5}, true, true},
-		{[]int{5, 2}, true, false}, {[]int{3, 3}, true, false}, {[]int{2, 3, 5, 4}, true, false}, {[]int{2, 4, 3, 5}, true, false},
-		{[]int{1}, false, false}, {[]int{6}, false, false}, {[]int{1, 2}, false, false}, {[]int{2, 6}, false, false}, {[]int{2, 1, 5}, false, false}, {[]int{math.MaxInt, math.MinInt}, false, false}, {[]int{math.MinInt, math.MaxInt}, false, false},
+		{nil, true, true, true}, {[]int{}, true, true, true}, {[]int{2}, true, true, true}, {[]int{5}, true, true, true}, {[]int{2, 5}, true, true, true}, {[]int{2, 3, 4, 5}, true, true, true},
+		{[]int{5, 2}, true, true, false}, {[]int{2, 3, 5, 4}, true, true, false}, {[]int{2, 4, 3, 5}, true, true, false}, {[]int{5, 4, 3, 2}, true, true, false},
+		{[]int{3, 3}, true, false, false}, {[]int{2, 3, 2}, true, false, false}, {[]int{2, 3, 4, 5, 5}, true, false, false}, {make([]int, 1000), false, false, false},
+		{[]int{1}, false, false, false}, {[]int{6}, false, false, false}, {[]int{1, 2}, false, false, false}, {[]int{2, 6}, false, false, false}, {[]int{2, 1, 5}, false, false, false}, {[]int{math.MaxInt, math.MinInt}, false, false, false}, {[]int{math.MinInt, math.MaxInt}, false, false, false},
 	} {
 		if got := limits.AreFrom(2, x.numbers, 5); got != x.from {
+			t.Error(i, x.numbers, got)
+		}
+		if got := limits.AreDifferent(2, x.numbers, 5); got != x.different {
 			t.Error(i, x.numbers, got)
 		}
 		if got := limits.AreIncreasing(2, x.numbers, 5); got != x.increasing {

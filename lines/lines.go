@@ -7,10 +7,18 @@ import (
 	"strings"
 )
 
+// Any is how many words follow the first one of a line if these can be any number.
+const Any = -1
+
 // A Kind is one of lines: the word with which they begin, and how many others follow it.
 type Kind struct {
 	Word   string
 	Others int
+}
+
+// has reports whether a line with some words is of the kind.
+func (k Kind) has(words []string) bool {
+	return words[0] == k.Word && (k.Others == Any || k.Others == len(words)-1)
 }
 
 // Line returns the line of a kind with some words after the first one; a word may be several, with blanks between them.
@@ -75,7 +83,7 @@ func Parse(text string, modulo int, kinds []Kind, each func(kind int, others []s
 	Must(sealed)
 	for _, line := range body {
 		words := strings.Split(line, " ")
-		kind := slices.Index(kinds, Kind{words[0], len(words) - 1})
+		kind := slices.IndexFunc(kinds, func(k Kind) bool { return k.has(words) })
 		Must(kind >= 0)
 		each(kind, words[1:])
 	}

@@ -97,6 +97,22 @@ func TestKinds(t *testing.T) {
 	}
 }
 
+func TestKindsWithAnyWords(t *testing.T) {
+	kinds := []lines.Kind{{Word: "stop", Others: 1}, {Word: "stop", Others: lines.Any}, {Word: "go"}}
+	var got []string
+	ok := lines.Parse(lines.Seal([]string{"stop", "stop 1", "stop 1 2", "stop ", "go", "stop 1 2 3"}, 7), 7, kinds, func(kind int, others []string) {
+		got = append(got, strings.Join(append([]string{lines.Join("", kind)}, others...), "_"))
+	})
+	if want := []string{"1", "0_1", "1_1_2", "0_", "2", "1_1_2_3"}; !ok || !slices.Equal(got, want) {
+		t.Error(got, ok)
+	}
+	for i, line := range []string{"", " stop", "stops", "stops 1 2", "go 1", "1 stop"} {
+		if lines.Parse(lines.Seal([]string{line}, 7), 7, kinds, func(int, []string) {}) {
+			t.Error(i, line)
+		}
+	}
+}
+
 func TestGivingUp(t *testing.T) {
 	text := lines.Seal([]string{"a 1 02 3,4", "a 5 6 -"}, 7)
 	kinds := []lines.Kind{{Word: "a", Others: 3}}

@@ -5,6 +5,7 @@ import (
 	"slices"
 
 	"mahlstick/api"
+	"mahlstick/picks"
 )
 
 // places goes through all places of a street, in order.
@@ -22,13 +23,7 @@ func places(s api.SightStreet) iter.Seq[api.SightPlace] {
 
 // where goes through all places of a street of which something is so, in order.
 func where(s api.SightStreet, is func(api.SightPlace) bool) iter.Seq[api.SightPlace] {
-	return func(yield func(api.SightPlace) bool) {
-		for place := range places(s) {
-			if is(place) && !yield(place) {
-				return
-			}
-		}
-	}
+	return picks.Where(places(s), is)
 }
 
 // count returns of how many places of a street something is so.
