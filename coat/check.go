@@ -13,15 +13,7 @@ func isSheet(s api.CoatSheet) bool {
 }
 
 func areDays(dry []api.Span) bool {
-	if !limits.IsFrom(1, len(dry), api.CoatDays) {
-		return false
-	}
-	for _, span := range dry {
-		if !limits.IsSpan(0, span, api.CoatDry) {
-			return false
-		}
-	}
-	return true
+	return limits.IsFrom(1, len(dry), api.CoatDays) && limits.AreSpans(0, dry, api.CoatDry)
 }
 
 func areCoats(coats []api.CoatCoat) bool {

@@ -48,3 +48,13 @@ func AreDifferent(least int, numbers []int, most int) bool {
 func IsSpan(least int, x api.Span, most int) bool {
 	return least <= x.Low && x.Low <= x.High && x.High <= most
 }
+
+// AreSpans reports whether each of some spans lies between two numbers, with ends in order.
+func AreSpans(least int, spans []api.Span, most int) bool {
+	for _, x := range spans {
+		if !IsSpan(least, x, most) {
+			return false
+		}
+	}
+	return true
+}

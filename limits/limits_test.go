@@ -53,3 +53,17 @@ func TestIsSpan(t *testing.T) {
 		}
 	}
 }
+
+func TestAreSpans(t *testing.T) {
+	for i, x := range []struct {
+		spans []api.Span
+		want  bool
+	}{
+		{nil, true}, {[]api.Span{{Low: 2, High: 5}}, true}, {[]api.Span{{Low: 4, High: 4}, {Low: 2, High: 3}, {Low: 4, High: 4}}, true},
+		{[]api.Span{{Low: 1, High: 5}}, false}, {[]api.Span{{Low: 2, High: 6}, {Low: 2, High: 2}}, false}, {[]api.Span{{Low: 2, High: 2}, {Low: 5, High: 4}}, false}, {make([]api.Span, 1000), false},
+	} {
+		if got := limits.AreSpans(2, x.spans, 5); got != x.want {
+			t.Error(i, got)
+		}
+	}
+}
